@@ -1,6 +1,7 @@
 package tests
 
 import (
+	"fmt"
 	"math"
 	"math/big"
 	"slices"
@@ -127,6 +128,12 @@ func wantExec(image []impl.Ins, mem []int, c impl.Core, number int) (impl.Core, 
 	return cloneCore(c), slices.Clone(mem), impl.Effect{Kind: 4}
 }
 
+// clip is the beginning of what a long list is shown as.
+func clip(x any) string {
+	text := fmt.Sprintf("%+v", x)
+	return text[:min(len(text), 200)]
+}
+
 // checkExec tells the kind of the effect, so that a test can say which of them it met.
 func checkExec(t *testing.T, image []impl.Ins, mem []int, c impl.Core, number int) int {
 	t.Helper()
@@ -134,10 +141,10 @@ func checkExec(t *testing.T, image []impl.Ins, mem []int, c impl.Core, number in
 	d, m, e := impl.Exec(image, mem, c, number)
 	wantD, wantM, wantE := wantExec(image0, mem0, c0, number)
 	if !sameCore(d, wantD) || e != wantE || !slices.Equal(m, wantM) {
-		t.Errorf("Exec of %.200v, memory %.200v, core %+v, number %d:\n got %+v %.200v %+v\nwant %+v %.200v %+v", image0, mem0, c0, number, d, m, e, wantD, wantM, wantE)
+		t.Errorf("Exec of %s, memory %s, core %+v, number %d:\n got %+v %s %+v\nwant %+v %s %+v", clip(image0), clip(mem0), c0, number, d, clip(m), e, wantD, clip(wantM), wantE)
 	}
 	if !slices.Equal(image, image0) || !slices.Equal(mem, mem0) || !sameCore(c, c0) {
-		t.Errorf("Exec of %.200v, memory %.200v, core %+v writes into what it was given", image0, mem0, c0)
+		t.Errorf("Exec of %s, memory %s, core %+v writes into what it was given", clip(image0), clip(mem0), c0)
 	}
 	return e.Kind
 }
