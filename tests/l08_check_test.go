@@ -1317,24 +1317,25 @@ func TestCheckOfManyFunctions(t *testing.T) {
 	}
 }
 
-func TestCheckWithListsThatAreEmptyAndNil(t *testing.T) {
-	var fill func(n impl.Node, empty []impl.Node) impl.Node
-	fill = func(n impl.Node, empty []impl.Node) impl.Node {
-		n = cloneNode(n)
-		if len(n.Kids) == 0 {
-			n.Kids = empty
-		}
-		for i, k := range n.Kids {
-			n.Kids[i] = fill(k, empty)
-		}
-		return n
+// withEmpty is the same tree, with that for each list without kids.
+func withEmpty(n impl.Node, empty []impl.Node) impl.Node {
+	n = cloneNode(n)
+	if len(n.Kids) == 0 {
+		n.Kids = empty
 	}
+	for i, k := range n.Kids {
+		n.Kids[i] = withEmpty(k, empty)
+	}
+	return n
+}
+
+func TestCheckWithListsThatAreEmptyAndNil(t *testing.T) {
 	for _, list := range listsForCheck() {
 		for _, empty := range [][]impl.Node{nil, {}, make([]impl.Node, 0, 4), make([]impl.Node, 4)[4:]} {
 			for _, none := range [][]impl.Param{nil, {}, make([]impl.Param, 0, 2)} {
 				other := slices.Clone(list)
 				for i, f := range other {
-					other[i].Body = fill(f.Body, empty)
+					other[i].Body = withEmpty(f.Body, empty)
 					if len(f.Params) == 0 {
 						other[i].Params = none
 					}
