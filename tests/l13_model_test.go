@@ -11,7 +11,7 @@ const (
 	mostSteps  = 100000
 )
 
-// worldRules are what is asked of a world, each by itself, so that a test can say that just one of them is broken. Which place of a unit it is is asked only where there is that unit.
+// worldRules are what is asked of a world, each by itself, so that a test can say that just one of them is broken. Which place of a unit it is, and how many registers it has, is asked only where there is that unit.
 var worldRules = map[string]func(w impl.World) bool{
 	"units":  func(w impl.World) bool { return wantUnitsOk(w.Units) },
 	"bodies": func(w impl.World) bool { return len(w.Bodies) > 0 && len(w.Bodies) <= mostBodies },
@@ -20,6 +20,9 @@ var worldRules = map[string]func(w impl.World) bool{
 	"unit":   eachFrame(func(w impl.World, f impl.Frame) bool { return hasUnit(w, f.Unit) }),
 	"pc": eachFrame(func(w impl.World, f impl.Frame) bool {
 		return !hasUnit(w, f.Unit) || f.Pc >= 0 && f.Pc < len(w.Units[f.Unit].Code)
+	}),
+	"regs": eachFrame(func(w impl.World, f impl.Frame) bool {
+		return !hasUnit(w, f.Unit) || len(f.Regs) == w.Units[f.Unit].Regs
 	}),
 	"reg":    eachFrame(func(_ impl.World, f impl.Frame) bool { return wordsOk(f.Regs...) }),
 	"below":  eachFrame(func(_ impl.World, f impl.Frame) bool { return targetOk(f.Dst) }),

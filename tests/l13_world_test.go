@@ -72,9 +72,17 @@ func framesOf(count, first int) []impl.Frame {
 	var list []impl.Frame
 	for i := range count {
 		unit := (first + i) % 3
-		list = append(list, impl.Frame{Unit: unit, Pc: []int{6, 3, 1}[unit], Regs: ramp([]int{3, 250, 1}[unit]), Dst: i*17 - 1})
+		list = append(list, impl.Frame{Unit: unit, Pc: []int{6, 3, 1}[unit], Regs: ownRegisters(unit), Dst: i*17 - 1})
 	}
 	return list
+}
+
+// ownRegisters are those of a frame of one of threeUnits; of a number that is none of them, which has none that are right, some.
+func ownRegisters(unit int) []int {
+	if unit < 0 || unit > 2 {
+		return ramp(3)
+	}
+	return ramp([]int{3, 250, 1}[unit])
 }
 
 // wholeWorld has bodies of which one is open, one waits, one has ended, and one both; its channels are 4.
@@ -93,11 +101,11 @@ func wholeWorld() impl.World {
 	}
 }
 
-// smallWorld has one body with one frame, and nothing else.
+// smallWorld has one body with one frame, and nothing else. Its unit has as many registers as the first one of threeUnits.
 func smallWorld() impl.World {
 	return impl.World{
-		Units:  []impl.Unit{namedUnit("main", 0)},
-		Bodies: []impl.Body{{Frames: []impl.Frame{{Regs: make([]int, 5), Dst: -1}}, Ticket: 1, Dst: -1, Two: -1}},
+		Units:  []impl.Unit{{Name: "main", Regs: 3, Code: []impl.Tac{ret(0)}}},
+		Bodies: []impl.Body{{Frames: []impl.Frame{{Regs: make([]int, 3), Dst: -1}}, Ticket: 1, Dst: -1, Two: -1}},
 	}
 }
 
@@ -207,14 +215,14 @@ func TestUnitsOfAWorld(t *testing.T) {
 	}
 	for _, count := range []int{1, 2, 79, 80} {
 		w := smallWorld()
-		w.Units = manyUnits(count)
+		w.Units, w.Bodies[0].Frames[0].Regs = manyUnits(count), make([]int, 5)
 		wantWorld(t, w, "")
 		w.Bodies[0].Frames[0].Unit = count - 1
 		wantWorld(t, w, "")
 	}
 	for _, count := range []int{81, 82, 500} {
 		w := smallWorld()
-		w.Units = manyUnits(count)
+		w.Units, w.Bodies[0].Frames[0].Regs = manyUnits(count), make([]int, 5)
 		wantWorld(t, w, "units")
 		w.Bodies[0].Frames[0].Unit = count - 1
 		wantWorld(t, w, "units")
@@ -226,7 +234,7 @@ func TestWorldsWithoutMain(t *testing.T) {
 	w := smallWorld()
 	w.Units[0].Name = "f"
 	wantWorld(t, w, "")
-	w.Units[0].Params = 4
+	w.Units[0].Params = 3
 	wantWorld(t, w, "")
 	w.Units = nil
 	wantWorld(t, w, "unit")
@@ -266,7 +274,7 @@ func TestHowManyFrames(t *testing.T) {
 				amiss := amissIf(count == 0 && !ended, "bare") + amissIf(count > 12, "frames")
 				wantEachBody(t, amiss, func(b *impl.Body) {
 					b.Ended, b.Waits = ended, waits
-					b.Frames = slices.Repeat([]impl.Frame{{Regs: []int{4}, Dst: -1}}, count)
+					b.Frames = slices.Repeat([]impl.Frame{{Regs: []int{4, 5, 6}, Dst: -1}}, count)
 				})
 			}
 		}
@@ -276,13 +284,16 @@ func TestHowManyFrames(t *testing.T) {
 func TestUnitsOfFrames(t *testing.T) {
 	for _, n := range []int{math.MinInt, least, -4, -3, -2, -1, 0, 1, 2, 3, 4, 80, 256, 1 << 32, 1<<32 + 1, greatest, math.MaxInt} {
 		amiss := amissIf(n < 0 || n > 2, "unit")
-		wantEachFrame(t, amiss, func(f *impl.Frame) { f.Unit, f.Pc = n, 0 })
-		wantEachFrame(t, amiss, func(f *impl.Frame) { f.Unit, f.Pc = n, 1 })
+		wantEachFrame(t, amiss, func(f *impl.Frame) { f.Unit, f.Pc, f.Regs = n, 0, ownRegisters(n) })
+		wantEachFrame(t, amiss, func(f *impl.Frame) { f.Unit, f.Pc, f.Regs = n, 1, ownRegisters(n) })
 	}
-	// A number that is no unit has no places either, whatever Pc is.
+	// A number that is no unit has no places either, whatever Pc is, and no registers, however many there are.
 	for _, n := range []int{-1, 3} {
 		for _, pc := range words() {
 			wantEachFrame(t, "unit", func(f *impl.Frame) { f.Unit, f.Pc = n, pc })
+		}
+		for _, count := range []int{0, 1, 3, 250, 251} {
+			wantEachFrame(t, "unit", func(f *impl.Frame) { f.Unit, f.Regs = n, ramp(count) })
 		}
 	}
 }
@@ -290,7 +301,9 @@ func TestUnitsOfFrames(t *testing.T) {
 func TestPlacesOfFrames(t *testing.T) {
 	for unit, count := range []int{7, 4, 2} {
 		for _, pc := range []int{math.MinInt, least, -8, -2, -1, 0, 1, 2, 3, 4, 5, 6, 7, 8, 899, 900, 1 << 32, 1<<32 + 1, greatest, math.MaxInt} {
-			wantEachFrame(t, amissIf(pc < 0 || pc >= count, "pc"), func(f *impl.Frame) { f.Unit, f.Pc = unit, pc })
+			wantEachFrame(t, amissIf(pc < 0 || pc >= count, "pc"), func(f *impl.Frame) {
+				f.Unit, f.Pc, f.Regs = unit, pc, ownRegisters(unit)
+			})
 		}
 	}
 	for count := 1; count <= mostPlaces; count += 31 {
@@ -316,19 +329,139 @@ func TestRegistersOfFrames(t *testing.T) {
 		wantEachFrame(t, amiss, func(f *impl.Frame) { f.Regs[len(f.Regs)/2] = n })
 		wantEachFrame(t, amiss, func(f *impl.Frame) { f.Regs[len(f.Regs)-1] = n })
 		wantEachFrame(t, amiss, func(f *impl.Frame) { f.Regs = slices.Repeat([]int{n}, len(f.Regs)) })
-		wantEachFrame(t, amiss, func(f *impl.Frame) { f.Regs = []int{n} })
+		wantEachFrame(t, amiss, func(f *impl.Frame) { f.Unit, f.Pc, f.Regs = 2, 0, []int{n} })
 	}
 }
 
-// How many registers a frame has is not asked, only that they are words.
+// A frame has the registers of its unit: not fewer, and not more.
 func TestHowManyRegistersAFrameHas(t *testing.T) {
-	for _, count := range []int{0, 1, 2, 3, 4, 249, 250, 251, 1000} {
-		wantEachFrame(t, "", func(f *impl.Frame) { f.Regs = ramp(count) })
-		wantEachFrame(t, "reg", func(f *impl.Frame) { f.Regs = append(ramp(count), greatest+1) })
+	for unit, regs := range []int{3, 250, 1} {
+		for _, count := range []int{0, 1, 2, 3, 4, 249, 250, 251, 256, 1000} {
+			amiss := amissIf(count != regs, "regs")
+			wantEachFrame(t, amiss, func(f *impl.Frame) { f.Unit, f.Pc, f.Regs = unit, 0, ramp(count) })
+			wantEachFrame(t, amiss, func(f *impl.Frame) { f.Unit, f.Pc, f.Regs = unit, 1, make([]int, count, 2000) })
+			if count > 0 {
+				wantEachFrame(t, strings.TrimSpace("reg "+amiss), func(f *impl.Frame) {
+					f.Unit, f.Pc, f.Regs = unit, 0, put(ramp(count), count-1, greatest+1)
+				})
+			}
+		}
 	}
 	for _, more := range []int{1, 2, 300} {
-		wantEachFrame(t, "", func(f *impl.Frame) { f.Regs = append(f.Regs, make([]int, more)...) })
-		wantEachFrame(t, "", func(f *impl.Frame) { f.Regs = f.Regs[min(more, len(f.Regs)):] })
+		wantEachFrame(t, "regs", func(f *impl.Frame) { f.Regs = append(f.Regs, make([]int, more)...) })
+		wantEachFrame(t, "regs", func(f *impl.Frame) { f.Regs = f.Regs[min(more, len(f.Regs)):] })
+		wantEachFrame(t, "regs", func(f *impl.Frame) { f.Regs = f.Regs[:max(len(f.Regs)-more, 0)] })
+	}
+}
+
+// fullWorld has as many bodies and frames as there may be, all of one unit of so many registers, and each body waits.
+func fullWorld(regs int) impl.World {
+	w := impl.World{Units: []impl.Unit{{Name: "f", Regs: regs, Code: []impl.Tac{label(0), jump(0)}}}}
+	for range mostBodies {
+		b := impl.Body{Waits: true, Ticket: 1, Dst: -1, Two: -1}
+		for range mostFrames {
+			b.Frames = append(b.Frames, impl.Frame{Regs: make([]int, regs), Dst: -1})
+		}
+		w.Bodies = append(w.Bodies, b)
+	}
+	return w
+}
+
+// wantRegistersAmiss is of a world of which no body is open, and of the same with each one open.
+func wantRegistersAmiss(t *testing.T, w impl.World, so bool) {
+	t.Helper()
+	wantWorld(t, w, amissIf(so, "regs"))
+	wantOpenAndStuck(t, w, nil, !so)
+	if impl.WorldOk(w) == so {
+		t.Errorf("WorldOk(%s) = %v", clip(w), !so)
+	}
+	var all []int
+	for id := range w.Bodies {
+		w.Bodies[id].Waits = false
+		all = append(all, id)
+	}
+	wantWorld(t, w, amissIf(so, "regs"))
+	wantOpenAndStuck(t, w, all, false)
+	for id := range w.Bodies {
+		w.Bodies[id].Waits = true
+	}
+}
+
+// One frame alone has another number of registers, at each place among the frames of a body and among the bodies.
+func TestWhereARegisterIsMissingOrTooMuch(t *testing.T) {
+	for _, regs := range []int{0, 1, 2, 3, 249, 250} {
+		w := fullWorld(regs)
+		wantRegistersAmiss(t, w, false)
+		for _, b := range w.Bodies {
+			for k := range b.Frames {
+				kept := b.Frames[k].Regs
+				for _, count := range []int{0, regs - 1, regs, regs + 1, regs + 256} {
+					if count < 0 {
+						continue
+					}
+					b.Frames[k].Regs = make([]int, count)
+					wantRegistersAmiss(t, w, count != regs)
+				}
+				b.Frames[k].Regs = kept
+			}
+		}
+		wantRegistersAmiss(t, w, false)
+	}
+}
+
+// One frame of each unit, whose registers go to another one: how many there are in all is as it was.
+func TestRegistersOfAnotherUnit(t *testing.T) {
+	w := fullWorld(0)
+	for _, regs := range []int{1, 2, 250} {
+		w.Units = append(w.Units, impl.Unit{Name: "u" + impl.Digits(regs), Regs: regs, Code: []impl.Tac{ret(regs - 1)}})
+	}
+	counts := []int{0, 1, 2, 250}
+	for unit := range counts {
+		for other, count := range counts {
+			for _, b := range w.Bodies {
+				for k := range b.Frames {
+					b.Frames[k].Unit, b.Frames[k].Regs = (unit+k)%4, ramp(counts[(unit+k)%4])
+				}
+			}
+			wantRegistersAmiss(t, w, false)
+			frames := w.Bodies[unit].Frames
+			at := slices.IndexFunc(frames, func(f impl.Frame) bool { return f.Unit == other })
+			frames[0].Regs, frames[at].Regs = ramp(count), ramp(counts[unit])
+			wantRegistersAmiss(t, w, unit != other)
+		}
+	}
+}
+
+// How many registers there are goes with the unit: one that has others makes each frame of it amiss, and no other one.
+func TestUnitsWhoseRegistersAreOthers(t *testing.T) {
+	for _, regs := range []int{250, 100, 2, 1} {
+		w := fullWorld(regs)
+		w.Units[0].Code = []impl.Tac{ret(0)}
+		for _, count := range []int{1, 2, 3, 99, 100, 101, 249, 250} {
+			w.Units[0].Regs = count
+			wantRegistersAmiss(t, w, count != regs)
+		}
+		w.Units[0].Regs = regs
+		for _, count := range []int{1, regs, 250} {
+			w.Units = append(w.Units[:1], impl.Unit{Name: "g", Regs: count, Code: []impl.Tac{ret(count - 1)}})
+			wantRegistersAmiss(t, w, false)
+		}
+	}
+}
+
+// Frames of a body that has ended are asked like others; one that has no frame lacks no register.
+func TestRegistersOfBodiesThatHaveEnded(t *testing.T) {
+	for _, count := range []int{2, 3, 4} {
+		w := fullWorld(3)
+		for id := range w.Bodies {
+			w.Bodies[id].Ended = true
+		}
+		w.Bodies[5].Frames[11].Regs = make([]int, count)
+		wantWorld(t, w, amissIf(count != 3, "regs"))
+		wantOpenAndStuck(t, w, nil, count == 3)
+		w.Bodies[5].Frames = nil
+		wantWorld(t, w, "")
+		wantOpenAndStuck(t, w, nil, true)
 	}
 }
 
@@ -361,6 +494,7 @@ func TestBodiesThatHaveEndedOrWait(t *testing.T) {
 		"frames": func(b *impl.Body) { b.Frames = slices.Repeat(b.Frames, 13) },
 		"unit":   func(b *impl.Body) { b.Frames[0].Unit = 3 },
 		"pc":     func(b *impl.Body) { b.Frames[0].Pc = 7 },
+		"regs":   func(b *impl.Body) { b.Frames[0].Regs = append(b.Frames[0].Regs, 0) },
 		"reg":    func(b *impl.Body) { b.Frames[0].Regs[0] = least - 1 },
 		"below":  func(b *impl.Body) { b.Frames[0].Dst = 250 },
 		"ticket": func(b *impl.Body) { b.Ticket = -1 },
@@ -467,7 +601,7 @@ func TestEachNumberOfAWorld(t *testing.T) {
 	w.Units = []impl.Unit{w.Units[2], namedUnit("f", 1, label(0))}
 	for _, b := range w.Bodies {
 		for k := range b.Frames {
-			b.Frames[k].Unit, b.Frames[k].Pc = k%2, k/2%2
+			b.Frames[k].Unit, b.Frames[k].Pc, b.Frames[k].Regs = k%2, k/2%2, ramp([]int{1, 5}[k%2])
 		}
 	}
 	met := map[string]int{}
@@ -480,7 +614,7 @@ func TestEachNumberOfAWorld(t *testing.T) {
 		*to = kept
 	}
 	wantWorld(t, w, "")
-	for _, name := range []string{"", "unit", "pc", "reg", "below", "ticket", "case", "value", "dst", "two", "chan", "out", "code"} {
+	for _, name := range []string{"", "unit", "pc", "regs", "reg", "below", "ticket", "case", "value", "dst", "two", "chan", "out", "code"} {
 		if met[name] == 0 {
 			t.Errorf("%q is not met: %v", name, met)
 		}
@@ -496,6 +630,7 @@ func worldTurns() map[string]func(w *impl.World) {
 		"bare":   func(w *impl.World) { w.Bodies[0] = impl.Body{Dst: w.Bodies[0].Dst} },
 		"unit":   func(w *impl.World) { w.Bodies[1].Frames[4].Unit = -1 },
 		"pc":     func(w *impl.World) { w.Bodies[1].Frames[2].Pc = -1 },
+		"regs":   func(w *impl.World) { w.Bodies[2].Frames[1].Regs = w.Bodies[2].Frames[1].Regs[:2] },
 		"reg":    func(w *impl.World) { w.Bodies[2].Frames[3].Regs[0] = turn },
 		"below":  func(w *impl.World) { w.Bodies[3].Frames[1].Dst = -2 },
 		"ticket": func(w *impl.World) { w.Bodies[3].Ticket = 100001 },
@@ -847,8 +982,10 @@ func (d *worldDrawer) word() int {
 	return []int{least, -1, 0, 1, 7, greatest, d.IntN(1000)}[d.IntN(7)]
 }
 
-func (d *worldDrawer) words(most int) []int {
-	list := make([]int, d.IntN(most+1))
+func (d *worldDrawer) words(most int) []int { return d.wordsOf(d.IntN(most + 1)) }
+
+func (d *worldDrawer) wordsOf(count int) []int {
+	list := make([]int, count)
 	for i := range list {
 		list[i] = d.word()
 	}
@@ -865,7 +1002,7 @@ func (d *worldDrawer) body(units []impl.Unit) impl.Body {
 	b := impl.Body{Ended: d.IntN(4) == 0, Waits: d.IntN(2) == 0, Ticket: d.step(), Value: d.word(), Case: d.step(), Dst: d.target(), Two: d.target()}
 	for range max(d.IntN(mostFrames+1), 1-flag(b.Ended)) {
 		unit := d.IntN(len(units))
-		b.Frames = append(b.Frames, impl.Frame{Unit: unit, Pc: d.IntN(len(units[unit].Code)), Regs: d.words(5), Dst: d.target()})
+		b.Frames = append(b.Frames, impl.Frame{Unit: unit, Pc: d.IntN(len(units[unit].Code)), Regs: d.wordsOf(units[unit].Regs), Dst: d.target()})
 	}
 	return b
 }
@@ -899,7 +1036,7 @@ func (d *worldDrawer) turn(w *impl.World) {
 		frames = make([]impl.Frame, 1)
 	}
 	f := &frames[d.IntN(len(frames))]
-	switch d.IntN(16) {
+	switch d.IntN(18) {
 	case 0:
 		b.Ticket = n
 	case 1:
@@ -933,6 +1070,12 @@ func (d *worldDrawer) turn(w *impl.World) {
 	case 15:
 		at := d.IntN(len(w.Units))
 		w.Units[at] = d.turnUnit(w.Units[at])
+	case 16:
+		f.Regs = f.Regs[:d.IntN(len(f.Regs)+1)]
+	case 17:
+		if len(f.Regs) > 0 {
+			f.Regs[d.IntN(len(f.Regs))] = n
+		}
 	}
 }
 
@@ -974,6 +1117,8 @@ func TestWorldsWithListsThatAreEmptyAndNil(t *testing.T) {
 		w := smallWorld()
 		w.Out, w.Bodies[0].Frames[0].Regs = empty, empty
 		w.Chans = []impl.Chan{{Buf: empty}}
+		wantWorld(t, w, "regs")
+		w.Units[0].Regs, w.Units[0].Code = 0, []impl.Tac{label(0), jump(0)}
 		wantWorld(t, w, "")
 		w.Units[0].Code[0].Args = empty
 		wantWorld(t, w, "")
@@ -1031,8 +1176,8 @@ func TestVeryLongWorlds(t *testing.T) {
 	long("bodies", func(w *impl.World) { w.Bodies = slices.Repeat([]impl.Body{{Ended: true}}, far) })
 	long("bare bodies", func(w *impl.World) { w.Bodies = make([]impl.Body, far) })
 	long("frames", func(w *impl.World) { w.Bodies[0].Frames = slices.Repeat(w.Bodies[0].Frames, far) })
-	long("", func(w *impl.World) { w.Bodies[0].Frames[0].Regs = make([]int, far) })
-	long("reg", func(w *impl.World) { w.Bodies[0].Frames[0].Regs = append(make([]int, far), turn) })
+	long("regs", func(w *impl.World) { w.Bodies[0].Frames[0].Regs = make([]int, far) })
+	long("reg regs", func(w *impl.World) { w.Bodies[0].Frames[0].Regs = append(make([]int, far), turn) })
 	long("", func(w *impl.World) { w.Out = make([]int, far) })
 	long("out", func(w *impl.World) { w.Out = append(make([]int, far), turn) })
 	long("chans", func(w *impl.World) { w.Chans = make([]impl.Chan, far) })
