@@ -1338,6 +1338,12 @@ func spoilWorld(w impl.World) {
 	for i := range w.Bodies[:cap(w.Bodies)] {
 		w.Bodies[:cap(w.Bodies)][i] = impl.Body{Ticket: -99}
 	}
+	for i, c := range w.Chans[:cap(w.Chans)] {
+		spoil(c.Buf)
+		spoilWaits(c.Takes)
+		spoilWaits(c.Gives)
+		w.Chans[:cap(w.Chans)][i] = impl.Chan{Cap: -99}
+	}
 	spoil(w.Out)
 }
 
