@@ -131,7 +131,24 @@ func wantActs(t *testing.T, w impl.World, id, kind int, turn func(w *impl.World)
 
 func wantOverWith(t *testing.T, w impl.World, id, kind, code int) {
 	t.Helper()
-	got := wantActs(t, w, id, kind, func(w *impl.World) { w.Over, w.Code = true, code })
+	wantLast(t, w, id, kind, func(w *impl.World) { w.Over, w.Code = true, code })
+}
+
+// wantOverByCase is of a body 0 at a select whose case of that number ends the world: D is that number, and all else as with other places that end it.
+func wantOverByCase(t *testing.T, w impl.World, code, number int) {
+	t.Helper()
+	top := topOf(&w, 0)
+	d := w.Units[top.Unit].Code[top.Pc].D
+	wantLast(t, w, 0, impl.KdSelect, func(w *impl.World) {
+		w.Over, w.Code = true, code
+		set(w, 0, d, number)
+	})
+}
+
+// wantLast is of what is done last in a world.
+func wantLast(t *testing.T, w impl.World, id, kind int, turn func(w *impl.World)) {
+	t.Helper()
+	got := wantActs(t, w, id, kind, turn)
 	for other := range got.Bodies {
 		wantIdle(t, got, other)
 	}
@@ -615,13 +632,18 @@ func TestNumbersOfNoChannel(t *testing.T) {
 			chans = append(chans, impl.Chan{Cap: 8, Buf: ramp(3), Takes: []impl.Wait{gone(1, 5, i)}})
 		}
 		for _, n := range numbersOfNone(count) {
-			for _, x := range []impl.Tac{
-				gives(9, 10), gives(9, 9), takes(0, 9), takes(9, 9), shuts(9), choose(0, 1, 0, 1, 9, 0), choose(0, 1, 1, 1, 9, 0), choose(9, 9, 0, 2, 9, 10), choose(0, 1, 1, 2, 9, 10),
-				choose(0, 1, 1, 1, 9, 0, 1, 9, 0), choose(0, 1, 0, 2, 9, 10, 2, 9, 11, 1, 9, 0),
-			} {
+			for _, x := range []impl.Tac{gives(9, 10), gives(9, 9), takes(0, 9), takes(9, 9), shuts(9)} {
 				w := parley(x, chans...)
 				set(&w, 0, 9, n)
 				wantOverWith(t, w, 0, kindOf(x.Op, 0), 7)
+			}
+			for _, x := range []impl.Tac{
+				choose(3, 1, 0, 1, 9, 0), choose(3, 1, 1, 1, 9, 0), choose(9, 9, 0, 2, 9, 10), choose(3, 1, 1, 2, 9, 10),
+				choose(3, 1, 1, 1, 9, 0, 1, 9, 0), choose(3, 1, 0, 2, 9, 10, 2, 9, 11, 1, 9, 0),
+			} {
+				w := parley(x, chans...)
+				set(&w, 0, 9, n)
+				wantOverByCase(t, w, 7, 0)
 			}
 		}
 		for n := 1; n <= count; n++ {
@@ -644,9 +666,9 @@ func TestCasesOfChannelsThatAreNone(t *testing.T) {
 			// Channel 1 can be taken from, channel 2 can't.
 			for at, ahead := range [][]int{{}, {1, 2, 0}, {2, 2, 10}, {1, 2, 0, 2, 2, 10}, {2, 1, 10}} {
 				for _, n01 := range []int{0, 1} {
-					w := parley(choose(0, 3, n01, slices.Concat(ahead, last)...), can, cannot)
+					w := parley(choose(4, 3, n01, slices.Concat(ahead, last)...), can, cannot)
 					set(&w, 0, 9, n)
-					wantOverWith(t, w, 0, impl.KdSelect, 7)
+					wantOverByCase(t, w, 7, len(ahead)/3)
 					if at > 2 {
 						continue
 					}
@@ -740,7 +762,13 @@ func TestGiving(t *testing.T) {
 				for _, takes := range [][]impl.Wait{nil, {gone(1, 0, 0)}, takers, takers[1:2]} {
 					// Closed, whatever else.
 					for _, x := range give {
-						wantOverWith(t, parley(x, impl.Chan{Cap: room, Closed: true, Buf: buf, Takes: takes, Gives: gives}), 0, kindOf(x.Op, 0), 2)
+						w := parley(x, impl.Chan{Cap: room, Closed: true, Buf: buf, Takes: takes, Gives: gives})
+						if x.Op == impl.TcSelect {
+							set(&w, 0, x.D, 77)
+							wantOverByCase(t, w, 2, 0)
+						} else {
+							wantOverWith(t, w, 0, impl.KdSend, 2)
+						}
 					}
 				}
 				// The first one who waits to take still is given it, whatever is in Buf.
@@ -1067,28 +1095,31 @@ func TestTheFirstCaseThatCanBeDone(t *testing.T) {
 	}
 }
 
-// A case that ends the world is one that can be done: it counts in its turn, and nothing is told of it.
+// A case that ends the world is one that is done: it counts in its turn, and which one it was is told, but nothing as taken.
 func TestACaseThatEndsTheWorld(t *testing.T) {
 	open, closed, none := []int{1, 1, 0}, []int{2, 2, 9}, []int{1, 0, 0}
-	later := []int{1, 3, 0}
+	later, full, nowhere := []int{1, 3, 0}, []int{2, 3, 9}, []int{2, 8, 9}
 	chans := []impl.Chan{{Cap: 1, Buf: []int{44}}, {Cap: 2, Closed: true, Takes: []impl.Wait{still(1, 0, 0)}}, {}}
 	for _, orElse := range []int{0, 1} {
 		for _, c := range []struct {
-			cases [][]int
-			code  int
+			cases        [][]int
+			code, number int
 		}{
-			{[][]int{closed}, 2}, {[][]int{none}, 7}, {[][]int{closed, none}, 2}, {[][]int{none, closed}, 7}, {[][]int{closed, open}, 2}, {[][]int{none, open}, 7},
-			{[][]int{later, closed}, 2}, {[][]int{later, none}, 7}, {[][]int{later, closed, open}, 2}, {[][]int{later, none, open}, 7}, {[][]int{later, later, closed}, 2},
-			{[][]int{open, closed}, -1}, {[][]int{open, none, closed}, -1}, {[][]int{later, open, closed}, -1}, {[][]int{later, open, none}, -1},
+			{[][]int{closed}, 2, 0}, {[][]int{none}, 7, 0}, {[][]int{nowhere}, 7, 0},
+			{[][]int{closed, none}, 2, 0}, {[][]int{none, closed}, 7, 0}, {[][]int{nowhere, closed}, 7, 0}, {[][]int{closed, open}, 2, 0}, {[][]int{none, open}, 7, 0},
+			{[][]int{later, closed}, 2, 1}, {[][]int{later, none}, 7, 1}, {[][]int{later, nowhere}, 7, 1}, {[][]int{full, closed}, 2, 1}, {[][]int{full, none}, 7, 1},
+			{[][]int{later, closed, open}, 2, 1}, {[][]int{later, none, open}, 7, 1}, {[][]int{full, closed, none}, 2, 1},
+			{[][]int{later, later, closed}, 2, 2}, {[][]int{full, later, none}, 7, 2}, {[][]int{later, full, nowhere}, 7, 2},
+			{[][]int{open, closed}, -1, 0}, {[][]int{open, none, closed}, -1, 0}, {[][]int{later, open, closed}, -1, 1}, {[][]int{later, open, none}, -1, 1},
 		} {
 			w := parley(choose(4, 5, orElse, slices.Concat(c.cases...)...), chans...)
 			if c.code >= 0 {
-				wantOverWith(t, w, 0, impl.KdSelect, c.code)
+				wantOverByCase(t, w, c.code, c.number)
 				continue
 			}
 			wantActs(t, w, 0, impl.KdSelect, func(w *impl.World) {
 				w.Chans[0].Buf = nil
-				set(w, 0, 4, slices.IndexFunc(c.cases, func(x []int) bool { return &x[0] == &open[0] }))
+				set(w, 0, 4, c.number)
 				set(w, 0, 5, 44)
 			})
 		}
@@ -1096,6 +1127,38 @@ func TestACaseThatEndsTheWorld(t *testing.T) {
 	// To take from a closed one does not end it.
 	w := parley(choose(4, 5, 1, 1, 3, 0, 1, 2, 0), chans...)
 	wantActs(t, w, 0, impl.KdSelect, func(w *impl.World) { set(w, 0, 4, 1); set(w, 0, 5, 0) })
+}
+
+// D may be any register: one of those that the case itself reads, the last one, and that of what is taken.
+func TestTheRegisterOfACaseThatEndsTheWorld(t *testing.T) {
+	for _, last := range []struct {
+		args []int
+		code int
+	}{{[]int{2, 2, 9}, 2}, {[]int{2, 10, 9}, 7}, {[]int{1, 10, 0}, 7}} {
+		for ahead := range 3 {
+			args := append(slices.Repeat([]int{1, 3, 0}, ahead), last.args...)
+			for d := range 12 {
+				for _, b := range []int{0, 3, 9, 11} {
+					w := parley(choose(d, b, 0, args...), impl.Chan{}, impl.Chan{Cap: 1, Closed: true}, impl.Chan{})
+					wantOverByCase(t, w, last.code, ahead)
+				}
+			}
+		}
+	}
+}
+
+// A case that ends the world is told in the last frame alone, and to no other body.
+func TestACaseThatEndsTheWorldFromAFrameAbove(t *testing.T) {
+	w := parley(ret(0), impl.Chan{})
+	w.Units[0].Code = []impl.Tac{choose(2, 3, 0, 1, 1, 0, 2, 0, 1), ret(2)}
+	w.Bodies[0].Frames = append(w.Bodies[0].Frames, frame(0, 0, 3, 0, 1, 77, 78))
+	got := wantActs(t, w, 0, impl.KdSelect, func(w *impl.World) {
+		w.Over, w.Code = true, 7
+		set(w, 0, 2, 1)
+	})
+	if regs := topOf(&got, 0).Regs; !slices.Equal(regs, []int{0, 1, 1, 78}) {
+		t.Errorf("registers %v", regs)
+	}
 }
 
 // The same channel in several cases: who waits for the same twice waits once, as the first of these cases.

@@ -217,8 +217,8 @@ var seenWays = map[int]func(s *seen, t impl.Tac) int{
 		for i := range count {
 			kind, number, value := t.Args[3*i], s.regs()[t.Args[3*i+1]], s.regs()[t.Args[3*i+2]]
 			if taken, done := s.talk(kind, number, value); done {
+				s.regs()[t.D] = i
 				if !s.Over {
-					s.regs()[t.D] = i
 					s.regs()[t.B] = taken
 				}
 				return 7
