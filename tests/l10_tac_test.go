@@ -942,10 +942,16 @@ func (d *unitDrawer) unit() impl.Unit {
 	for range d.IntN([]int{4, 20, 60}[d.IntN(3)]) {
 		u.Code = append(u.Code, d.place())
 	}
+	u.Code = d.ended(u.Code)
+	return u
+}
+
+// ended puts all labels somewhere among places, and one behind them that ends them.
+func (d *unitDrawer) ended(code []impl.Tac) []impl.Tac {
 	for n := range d.labels {
-		u.Code = slices.Insert(u.Code, d.IntN(len(u.Code)+1), label(n))
+		code = slices.Insert(code, d.IntN(len(code)+1), label(n))
 	}
-	return impl.Unit{Name: u.Name, Params: u.Params, Regs: u.Regs, Code: append(u.Code, []impl.Tac{ret(d.register()), jump(d.IntN(d.labels)), {Op: impl.TcHalt, A: d.register()}}[d.IntN(3)])}
+	return append(code, []impl.Tac{ret(d.register()), jump(d.IntN(d.labels)), halts(d.register())}[d.IntN(3)])
 }
 
 // Promise 10: what is told of each place of a unit that is right are registers of it, each of which is a field of the place or one of its Args.

@@ -923,28 +923,34 @@ func TestDrawnProgramsWithFaultsAreNotLowered(t *testing.T) {
 	}
 }
 
+// wantUnitsReckonTheSame is of units that are made of those functions: run with some words, each answers and prints what Eval tells of its tree, where that is done; and how many of them are, and print.
+func (d *runDrawer) wantUnitsReckonTheSame(t *testing.T, list []impl.Func, units []impl.Unit) (done, printed int) {
+	t.Helper()
+	for _, f := range list {
+		args := d.args(f)
+		want := impl.Eval(list, f.Name, args, 20000)
+		if want.Code != impl.EvDone {
+			continue
+		}
+		r := &unitRun{list: units, left: 200000}
+		if value := r.run(f.Name, args); value != want.Value || !slices.Equal(r.out, want.Out) {
+			t.Errorf("%s of %.300q with %v is %d and prints %s, and is %s as trees", f.Name, impl.Write(list), args, value, clip(r.out), clip(want))
+		}
+		done++
+		printed += min(len(want.Out), 1)
+	}
+	return done, printed
+}
+
 // What is lowered and run, place by place, is what the trees reckon: what is printed, and what is told.
 func TestWhatIsLoweredReckonsTheSame(t *testing.T) {
 	d := &runDrawer{drawer: newDrawer(114)}
 	done, printed := 0, 0
 	for range 1500 {
 		list := d.program()
-		units := impl.Lower(list, false)
-		if len(units) == 0 {
-			continue
-		}
-		for _, f := range list {
-			args := d.args(f)
-			want := impl.Eval(list, f.Name, args, 20000)
-			if want.Code != impl.EvDone {
-				continue
-			}
-			r := &unitRun{list: units, left: 200000}
-			if value := r.run(f.Name, args); value != want.Value || !slices.Equal(r.out, want.Out) {
-				t.Errorf("%s of %.300q with %v is %d and prints %s, and is %s as trees", f.Name, impl.Write(list), args, value, clip(r.out), clip(want))
-			}
-			done++
-			printed += min(len(want.Out), 1)
+		if units := impl.Lower(list, false); len(units) > 0 {
+			some, prints := d.wantUnitsReckonTheSame(t, list, units)
+			done, printed = done+some, printed+prints
 		}
 	}
 	if done < 1500 || printed < 800 {

@@ -155,10 +155,10 @@ func same(d, a int) impl.Tac { return place(impl.TcCopy, d, a, 0) }
 
 func halts(a int) impl.Tac { return impl.Tac{Op: impl.TcHalt, A: a} }
 
-func TestLivenessOfUnitsThatAreNotRight(t *testing.T) {
+// wrongUnits are some with each of which something is amiss, but of which some places would be right.
+func wrongUnits() []impl.Unit {
 	right := []impl.Tac{number(1, 5), label(0), unless(1, 0), show(1), jump(0)}
-	wantUnit(t, unit(0, 2, right...))
-	wrong := []impl.Unit{
+	return []impl.Unit{
 		{}, {Regs: 2}, {Regs: 2, Code: []impl.Tac{}}, unit(0, 1), unit(-1, 2, right...), unit(3, 2, right...), unit(5, 250, right...), unit(0, -1, right...), unit(0, 251, right...), unit(0, 1, right...),
 		unit(0, 2, slices.Repeat(right, 2)...), unit(0, 2, append(slices.Repeat([]impl.Tac{show(1)}, 900), ret(0))...),
 		unit(0, 2, jump(0), ret(0)), unit(0, 2, unless(0, 3), ret(0)), unit(0, 2, label(901), ret(0)), unit(0, 2, label(-1), ret(0)),
@@ -168,7 +168,11 @@ func TestLivenessOfUnitsThatAreNotRight(t *testing.T) {
 		unit(0, 2, choose(0, 1, 2, 1, 0, 0), ret(0)), unit(0, 2, number(0, greatest+1), ret(0)), unit(0, 2, impl.Tac{Op: impl.TcRet, D: 1}), unit(0, 2, impl.Tac{Op: impl.TcRet, Args: []int{1}}),
 		unit(0, 2, impl.Tac{Op: impl.TcCas}, ret(0)), unit(0, 2, impl.Tac{Op: impl.TcCas, Args: []int{0, 1}}, ret(0)),
 	}
-	for _, u := range wrong {
+}
+
+func TestLivenessOfUnitsThatAreNotRight(t *testing.T) {
+	wantUnit(t, unit(0, 2, number(1, 5), label(0), unless(1, 0), show(1), jump(0)))
+	for _, u := range wrongUnits() {
 		wantNothingLive(t, u)
 		checkLiveness(t, u)
 	}
@@ -597,10 +601,7 @@ func (d *flowDrawer) unit() impl.Unit {
 		}
 		u.Code = append(u.Code, x)
 	}
-	for n := range d.labels {
-		u.Code = slices.Insert(u.Code, d.IntN(len(u.Code)+1), label(n))
-	}
-	u.Code = append(u.Code, []impl.Tac{ret(d.register()), jump(d.IntN(d.labels)), halts(d.register())}[d.IntN(3)])
+	u.Code = d.ended(u.Code)
 	return u
 }
 
