@@ -679,7 +679,7 @@ func deadTurned(w impl.World) (impl.World, int) {
 	for _, b := range out.Bodies {
 		for _, f := range b.Frames {
 			u := out.Units[f.Unit]
-			live := append(slices.DeleteFunc(impl.LiveOut(u)[f.Pc], func(r int) bool { return slices.Contains(impl.Sets(u.Code[f.Pc]), r) }), impl.Uses(u.Code[f.Pc])...)
+			live := readFrom(u, impl.LiveOut(u), f.Pc)
 			for r := range f.Regs {
 				if !slices.Contains(live, r) {
 					f.Regs[r] = wrap(7777 - f.Regs[r])

@@ -10,25 +10,38 @@ import (
 	"loop.example/g00286/impl"
 )
 
-// checkFold holds Fold against the model, and asks what holds of each answer.
-func checkFold(t *testing.T, u impl.Unit) impl.Unit {
+// pass makes another unit of each one; want is the document's words of it.
+type pass struct {
+	name     string
+	do, want func(u impl.Unit) impl.Unit
+}
+
+var fold = pass{"Fold", impl.Fold, wantFold}
+
+// check holds a pass against the model, and asks what holds of each answer.
+func (p pass) check(t *testing.T, u impl.Unit) impl.Unit {
 	t.Helper()
 	kept := cloneUnit(u)
-	got, want := impl.Fold(u), wantFold(u)
+	got, want := p.do(u), p.want(u)
 	if !sameUnit(got, want) {
-		t.Errorf("Fold(%s) = %s, not %s", clip(u), unlikeUnits(got, want), clip(want))
+		t.Errorf("%s(%s) = %s, not %s", p.name, clip(u), unlikeUnits(got, want), clip(want))
 	}
 	if !sameUnit(u, kept) {
-		t.Errorf("%s is written into", clip(kept))
+		t.Errorf("%s writes into %s", p.name, clip(kept))
 	}
 	if wantUnitOk(u) != impl.UnitOk(got) {
-		t.Errorf("of %s there is right: %v, and folded: %v", clip(u), wantUnitOk(u), impl.UnitOk(got))
+		t.Errorf("%s is right: %v, and behind %s: %v", clip(u), wantUnitOk(u), p.name, impl.UnitOk(got))
 	}
-	// All is known the same of what is folded, so that nothing more is folded.
-	if again := impl.Fold(got); !sameUnit(again, got) {
-		t.Errorf("%s, folded, is folded to another, %s", clip(u), unlikeUnits(again, got))
+	// What it would turn is turned, so that nothing more is.
+	if again := p.do(got); !sameUnit(again, got) {
+		t.Errorf("%s is another behind %s once more: %s", clip(got), p.name, unlikeUnits(again, got))
 	}
 	return got
+}
+
+func checkFold(t *testing.T, u impl.Unit) impl.Unit {
+	t.Helper()
+	return fold.check(t, u)
 }
 
 // unlikeUnits tells where two units differ first.
@@ -41,24 +54,34 @@ func unlikeUnits(got, want impl.Unit) string {
 	return clip(got)
 }
 
-// wantFolded is of a unit that is right, and of its places when it is folded.
-func wantFolded(t *testing.T, u impl.Unit, code ...impl.Tac) {
+// wantMade is of a unit that is right, and of its places behind the pass.
+func (p pass) wantMade(t *testing.T, u impl.Unit, code ...impl.Tac) {
 	t.Helper()
 	if !impl.UnitOk(u) {
 		t.Fatalf("%s is not right: %v", clip(u), unitFaults(u))
 	}
 	want := u
 	want.Code = code
-	if got := impl.Fold(u); !sameUnit(got, want) {
-		t.Errorf("Fold of %s is %s, not %s", codeText(u.Code), codeText(got.Code), codeText(code))
+	if got := p.do(u); !sameUnit(got, want) {
+		t.Errorf("%s of %s is %s, not %s: %s", p.name, clip(codeText(u.Code)), clip(codeText(got.Code)), clip(codeText(code)), unlikeUnits(got, want))
 	}
-	checkFold(t, u)
+	p.check(t, u)
 }
 
-// wantAsItIs is of a unit that Fold leaves as it is.
+// wantLeft is of a unit that the pass leaves as it is.
+func (p pass) wantLeft(t *testing.T, u impl.Unit) {
+	t.Helper()
+	p.wantMade(t, u, cloneUnit(u).Code...)
+}
+
+func wantFolded(t *testing.T, u impl.Unit, code ...impl.Tac) {
+	t.Helper()
+	fold.wantMade(t, u, code...)
+}
+
 func wantAsItIs(t *testing.T, u impl.Unit) {
 	t.Helper()
-	wantFolded(t, u, cloneUnit(u).Code...)
+	fold.wantLeft(t, u)
 }
 
 // twelve sets each register of twelve to a word of its own, and askedFor asks for each of them, by copies into themselves.
@@ -115,27 +138,39 @@ func TestFoldOfAProgram(t *testing.T) {
 	}
 }
 
-func TestFoldOfUnitsThatAreNotRight(t *testing.T) {
+// wantNotTurned is of a unit that is not right.
+func (p pass) wantNotTurned(t *testing.T, u impl.Unit) {
+	t.Helper()
+	if got := p.do(u); !sameUnit(got, u) || impl.UnitOk(u) {
+		t.Errorf("%s(%s) = %s, of what is not right", p.name, clip(u), unlikeUnits(got, u))
+	}
+}
+
+// wantWrongNotTurned is of units that are not right, as they are and with places ahead of all that the pass would turn.
+func (p pass) wantWrongNotTurned(t *testing.T, turned ...impl.Tac) {
+	t.Helper()
 	for _, wrong := range wrongUnits() {
-		// As it is, and with something ahead of all that would be folded.
 		ahead := wrong
-		ahead.Code = append([]impl.Tac{number(0, 5), same(0, 0), sum(0, 0, 0)}, wrong.Code...)
+		ahead.Code = slices.Concat(turned, wrong.Code)
 		for _, u := range []impl.Unit{wrong, ahead} {
-			if got := impl.Fold(u); !sameUnit(got, u) || impl.UnitOk(u) {
-				t.Errorf("Fold(%s) = %s, of what is not right", clip(u), clip(got))
-			}
-			checkFold(t, u)
+			p.wantNotTurned(t, u)
+			p.check(t, u)
 		}
 	}
 	// One place that is amiss among the most of them.
 	for _, at := range []int{0, 1, 2, 450, 898, 899} {
-		u := unit(0, 250, append(slices.Repeat([]impl.Tac{number(1, 2), sum(1, 1, 1), same(249, 1)}, 300)[:899], ret(0))...)
+		u := unit(0, 250, append(slices.Repeat(turned, 900/len(turned))[:899], ret(0))...)
 		wantUnit(t, u)
-		u.Code[at].Op = 29
-		if got := impl.Fold(u); !sameUnit(got, u) || impl.UnitOk(u) {
-			t.Errorf("with place %d amiss there is folded %s", at, unlikeUnits(got, u))
+		if sameUnit(p.do(u), u) {
+			t.Errorf("%s turns nothing of %s", p.name, clip(u))
 		}
+		u.Code[at].Op = 29
+		p.wantNotTurned(t, u)
 	}
+}
+
+func TestFoldOfUnitsThatAreNotRight(t *testing.T) {
+	fold.wantWrongNotTurned(t, number(0, 5), same(0, 0), sum(0, 0, 0))
 }
 
 func TestNothingIsKnownAtTheBeginning(t *testing.T) {
@@ -470,27 +505,33 @@ func TestDrawnUnitsAreFolded(t *testing.T) {
 	}
 }
 
-func TestDrawnUnitsThatAreTurnedAreFolded(t *testing.T) {
-	d := newKnownDrawer(174)
+// wantTurnedUnits is of drawn units of which one thing is turned, so that most of them are not right.
+func (p pass) wantTurnedUnits(t *testing.T, d interface {
+	unit() impl.Unit
+	turnUnit(u impl.Unit) impl.Unit
+}) {
+	t.Helper()
 	right, wrong := 0, 0
 	for range 1000 {
 		u := d.unit()
 		for range 8 {
 			turned := d.turnUnit(u)
-			got := checkFold(t, turned)
+			p.check(t, turned)
 			if wantUnitOk(turned) {
 				right++
-				continue
-			}
-			wrong++
-			if !sameUnit(got, turned) {
-				t.Errorf("%s, which is not right, is folded to %s", clip(turned), clip(got))
+			} else {
+				wrong++
+				p.wantNotTurned(t, turned)
 			}
 		}
 	}
 	if right < 500 || wrong < 2000 {
 		t.Errorf("%d are right, %d are wrong", right, wrong)
 	}
+}
+
+func TestDrawnUnitsThatAreTurnedAreFolded(t *testing.T) {
+	fold.wantTurnedUnits(t, newKnownDrawer(174))
 }
 
 func TestUnitsOfDrawnProgramsAreFolded(t *testing.T) {
@@ -674,82 +715,87 @@ func TestFoldOfTheLargestUnits(t *testing.T) {
 	}
 }
 
-func TestFoldWithListsThatAreEmptyAndNil(t *testing.T) {
+// wantEmptyLists is of lists that are empty or nil, at each op with places ahead of it that the pass turns.
+func (p pass) wantEmptyLists(t *testing.T, ahead []impl.Tac) {
+	t.Helper()
 	for _, empty := range [][]int{nil, {}, make([]int, 0, 9), []int{1, 2, 3}[3:], []int{2, 3, 4}[:0]} {
 		for _, f := range tacForms {
 			x := ordinaryTac(f)
 			x.Args = empty
-			checkFold(t, around(x))
+			p.check(t, around(x))
 			x = ordinaryTac(f)
 			x.Args = nil
-			u := unit(2, aroundRegs, append(twelve(), x, ret(0))...)
+			u := unit(2, aroundRegs, append(slices.Clone(ahead), x, ret(0))...)
 			with := cloneUnit(u)
 			for i := range with.Code {
 				with.Code[i].Args = empty
 			}
-			if got, want := impl.Fold(with), impl.Fold(u); !sameUnit(got, want) {
+			if got, want := p.do(with), p.do(u); !sameUnit(got, want) {
 				t.Errorf("with empty lists %s is %s, not %s", clip(u), clip(got), clip(want))
 			}
-			checkFold(t, with)
+			p.check(t, with)
 		}
 	}
-	for _, code := range [][]impl.Tac{nil, {}, make([]impl.Tac, 0, 9), []impl.Tac{ret(0)}[:0]} {
+	for _, code := range [][]impl.Tac{nil, {}, make([]impl.Tac, 0, 9), make([]impl.Tac, 3), []impl.Tac{ret(0)}[:0]} {
 		for _, u := range []impl.Unit{{Code: code}, {Regs: 1, Code: code}, {Name: "f", Params: 1, Regs: 4, Code: code}} {
-			if got := impl.Fold(u); !sameUnit(got, u) || len(got.Code) != 0 {
-				t.Errorf("Fold(%s) = %s", clip(u), clip(got))
-			}
+			p.wantNotTurned(t, u)
+			p.check(t, u)
 		}
 	}
-	checkFold(t, impl.Unit{Code: make([]impl.Tac, 3)})
 	// A unit without registers.
-	wantAsItIs(t, impl.Unit{Code: []impl.Tac{label(0), jump(0)}})
-	wantAsItIs(t, impl.Unit{Code: []impl.Tac{label(0), begin("", []int{}...), jump(0)}})
+	p.wantLeft(t, impl.Unit{Code: []impl.Tac{label(0), jump(0)}})
+	p.wantLeft(t, impl.Unit{Code: []impl.Tac{label(0), begin("", []int{}...), jump(0)}})
 }
 
-func TestFoldOfVeryLongUnits(t *testing.T) {
+func TestFoldWithListsThatAreEmptyAndNil(t *testing.T) {
+	fold.wantEmptyLists(t, twelve())
+}
+
+// wantVeryLong is of very long lists and texts, and of very large numbers at each field, with places ahead that the pass turns.
+func (p pass) wantVeryLong(t *testing.T, ahead []impl.Tac) {
+	t.Helper()
 	const far = 1000000
-	asItWas := func(u impl.Unit) {
-		t.Helper()
-		if got := impl.Fold(u); !sameUnit(got, u) || impl.UnitOk(u) {
-			t.Errorf("Fold(%s) = %s, of what is not right", clip(u), clip(got))
-		}
-	}
-	asItWas(unit(0, 1, slices.Repeat([]impl.Tac{ret(0)}, far)...))
-	asItWas(unit(0, 250, append(slices.Repeat([]impl.Tac{number(1, 2), sum(1, 1, 1)}, far/2), ret(0))...))
+	p.wantNotTurned(t, unit(0, 1, slices.Repeat([]impl.Tac{ret(0)}, far)...))
+	p.wantNotTurned(t, unit(0, 250, append(slices.Repeat(ahead, far/len(ahead)), ret(0))...))
 	long := make([]int, far)
 	text := strings.Repeat("a long name ", 200000)
 	for _, f := range tacForms {
 		x := ordinaryTac(f)
 		x.Args = long
-		asItWas(around(x))
+		p.wantNotTurned(t, around(x))
 		if strings.Contains(f.names, "S") {
 			x = ordinaryTac(f)
 			x.S = text
 			u := around(x)
 			u.Name = text
-			if got := impl.Fold(u); got.Name != text || got.Code[1].S != text || len(got.Code) != len(u.Code) {
+			want := p.want(u)
+			if got := p.do(u); got.Name != text || !sameUnit(got, want) {
 				t.Errorf("with a very long text op %d is %s", f.op, clip(got))
 			}
 		}
 	}
 	for _, n := range append(append(edges(), farPlaces()...), manyNumbers(300)...) {
-		checkFold(t, impl.Unit{Name: "u", Params: n, Regs: n, Code: []impl.Tac{ret(0)}})
-		checkFold(t, impl.Unit{Name: "u", Params: n, Regs: n, Code: []impl.Tac{number(0, 1), same(0, 0), ret(0)}})
-		checkFold(t, unit(0, n, number(0, 1), same(n, 0), ret(n)))
-		checkFold(t, unit(0, 250, number(0, n), same(1, 0), sum(2, 0, 1), unless(2, 1), label(1), ret(n)))
-		checkFold(t, unit(0, 250, number(1, 0), label(n), unless(1, n), number(1, 0), unless(1, n), jump(n)))
-		checkFold(t, unit(0, 250, impl.Tac{Op: n, D: n, A: n, B: n, N: n, Args: []int{n, n, n}}, ret(0)))
+		p.check(t, impl.Unit{Name: "u", Params: n, Regs: n, Code: []impl.Tac{ret(0)}})
+		p.check(t, impl.Unit{Name: "u", Params: n, Regs: n, Code: []impl.Tac{number(0, 1), same(0, 0), ret(0)}})
+		p.check(t, unit(0, n, number(0, 1), same(n, 0), same(0, n), ret(n)))
+		p.check(t, unit(0, 250, number(0, n), same(1, 0), sum(2, 0, 1), unless(2, 1), label(1), ret(n)))
+		p.check(t, unit(0, 250, number(1, 0), label(n), unless(1, n), number(1, 0), same(2, 1), unless(2, n), jump(n)))
+		p.check(t, unit(0, 250, impl.Tac{Op: n, D: n, A: n, B: n, N: n, Args: []int{n, n, n}}, ret(0)))
 		for _, f := range tacForms {
 			for _, put := range registerFields(f) {
 				x := ordinaryTac(f)
 				put(&x, n)
-				checkFold(t, unit(2, aroundRegs, append(twelve(), x, label(aroundLabel), ret(0))...))
+				p.check(t, unit(2, aroundRegs, append(slices.Clone(ahead), x, label(aroundLabel), ret(0))...))
 			}
 		}
 	}
 	for _, a := range []int{math.MinInt, least - 1, greatest + 1, turn, math.MaxInt} {
-		asItWas(unit(0, 3, number(0, 2), number(1, a), sum(2, 0, 0), ret(2)))
+		p.wantNotTurned(t, unit(0, 3, number(0, 2), number(1, a), same(2, 0), sum(2, 2, 0), ret(2)))
 	}
+}
+
+func TestFoldOfVeryLongUnits(t *testing.T) {
+	fold.wantVeryLong(t, twelve())
 }
 
 // unitsToFold are some that are right, and some of which something is amiss.
@@ -766,46 +812,54 @@ func unitsToFold() []impl.Unit {
 	return out
 }
 
-func TestFoldWritesIntoNothing(t *testing.T) {
-	list := unitsToFold()
+func (p pass) wantNothingWrittenInto(t *testing.T, list []impl.Unit) {
+	t.Helper()
 	given, whole := roomyUnits(list)
 	for i, u := range given {
-		got := impl.Fold(u)
-		if !sameUnit(got, impl.Fold(list[i])) {
-			t.Errorf("%s is folded otherwise with room behind its lists", clip(u))
+		got := p.do(u)
+		if !sameUnit(got, p.do(list[i])) {
+			t.Errorf("%s(%s) is another with room behind its lists", p.name, clip(u))
 		}
 		spoilWorld(impl.World{Units: []impl.Unit{got}})
 	}
 	if !roomIsAsItWas(given, whole) {
-		t.Error("the units, or the room behind their lists, are written into")
+		t.Errorf("%s writes into the units, or into the room behind their lists", p.name)
 	}
 }
 
-// What one answer holds is its own: no two of its lists share any memory, nor with another answer or with what was given, and its texts do not lie in what was given.
-func TestEachFoldedUnitIsItsOwn(t *testing.T) {
+func TestFoldWritesIntoNothing(t *testing.T) {
+	fold.wantNothingWrittenInto(t, unitsToFold())
+}
+
+// wantOwn is that what one answer holds is its own: no two of its lists share any memory, nor with another answer or with what was given, and its texts do not lie in what was given. What stands behind its last place is none of its lists either.
+func (p pass) wantOwn(t *testing.T, list []impl.Unit) {
+	t.Helper()
 	met := 0
-	list, _ := roomyUnits(unitsToFold())
+	list, _ = roomyUnits(list)
 	for _, u := range list {
 		u.Name = strings.Clone(u.Name)
 		for k := range u.Code {
 			u.Code[k].S = strings.Clone(u.Code[k].S)
 		}
 		given := []impl.Unit{u}
-		one, other := []impl.Unit{impl.Fold(u)}, []impl.Unit{impl.Fold(u)}
+		one, other := []impl.Unit{p.do(u)}, []impl.Unit{p.do(u)}
 		if !apart(slices.Concat(listsOf(given), listsOf(one), listsOf(other))) {
-			t.Fatalf("%s, folded, shares memory", clip(u))
+			t.Fatalf("%s(%s) shares memory", p.name, clip(u))
 		}
 		if !apart(slices.Concat(textsOfUnits(given), textsOfUnits(one), textsOfUnits(other))) {
-			t.Fatalf("a text of %s, folded, lies in what was given", clip(u))
+			t.Fatalf("a text of %s(%s) lies in what was given", p.name, clip(u))
 		}
 		kept, was := cloneUnits(other), cloneUnits(given)
 		spoilWorld(impl.World{Units: one})
-		if !sameUnit(other[0], kept[0]) || !sameUnit(u, was[0]) || !sameUnit(impl.Fold(u), kept[0]) {
-			t.Fatalf("%s, folded, is not its own", clip(u))
+		if !sameUnit(other[0], kept[0]) || !sameUnit(u, was[0]) || !sameUnit(p.do(u), kept[0]) {
+			t.Fatalf("%s(%s) is not its own", p.name, clip(u))
+		}
+		for _, x := range other[0].Code[len(other[0].Code):cap(other[0].Code)] {
+			spoil(x.Args)
 		}
 		spoilWorld(impl.World{Units: given})
 		if !sameUnit(other[0], kept[0]) {
-			t.Fatalf("%s, folded, is turned with what was given", clip(was[0]))
+			t.Fatalf("%s(%s) is turned with what was given, or with what stands behind it", p.name, clip(was[0]))
 		}
 		for _, x := range kept[0].Code {
 			met += flag(len(x.Args) > 0)
@@ -814,43 +868,46 @@ func TestEachFoldedUnitIsItsOwn(t *testing.T) {
 	if met < 300 {
 		t.Errorf("%d lists of Args are met", met)
 	}
-	// What stands behind the last place of an answer is no place with the Args of another one.
-	u := unit(1, 4, number(1, 5), unless(1, 0), unless(1, 0), label(0), into(2, call("f", 0, 1)), begin("f", 3, 2), ret(0))
-	got := impl.Fold(u)
-	for _, x := range got.Code[len(got.Code):cap(got.Code)] {
-		spoil(x.Args)
-	}
-	if !sameUnit(got, wantFold(u)) {
-		t.Errorf("what stands behind the last place of %s shares memory with it", codeText(got.Code))
-	}
 }
 
-func TestFoldAnswersTheSameAgain(t *testing.T) {
-	units := unitsToFold()
+func TestEachFoldedUnitIsItsOwn(t *testing.T) {
+	fold.wantOwn(t, append(unitsToFold(), unit(1, 4, number(1, 5), unless(1, 0), unless(1, 0), label(0), into(2, call("f", 0, 1)), begin("f", 3, 2), ret(0))))
+}
+
+func (p pass) wantSameAgain(t *testing.T, units []impl.Unit) {
+	t.Helper()
 	for i, u := range units {
-		first := impl.Fold(u)
+		first := p.do(u)
 		for range 5 {
-			impl.Fold(units[(i+1)%len(units)])
-			if !sameUnit(impl.Fold(u), first) {
-				t.Errorf("%s is not folded the same again", clip(u))
+			p.do(units[(i+1)%len(units)])
+			if !sameUnit(p.do(u), first) {
+				t.Errorf("%s(%s) is not the same again", p.name, clip(u))
 			}
 		}
 	}
 }
 
-func TestFoldSideBySide(t *testing.T) {
-	units := unitsToFold()
+func TestFoldAnswersTheSameAgain(t *testing.T) {
+	fold.wantSameAgain(t, unitsToFold())
+}
+
+func (p pass) wantSideBySide(t *testing.T, units []impl.Unit) {
+	t.Helper()
 	var group sync.WaitGroup
 	wrong := make([]int, 8)
 	for worker := range wrong {
 		group.Go(func() {
 			for _, u := range units {
-				wrong[worker] += flag(!sameUnit(impl.Fold(u), wantFold(u)))
+				wrong[worker] += flag(!sameUnit(p.do(u), p.want(u)))
 			}
 		})
 	}
 	group.Wait()
 	if !slices.Equal(wrong, make([]int, 8)) {
-		t.Errorf("answers side by side are others: %v", wrong)
+		t.Errorf("answers of %s side by side are others: %v", p.name, wrong)
 	}
+}
+
+func TestFoldSideBySide(t *testing.T) {
+	fold.wantSideBySide(t, unitsToFold())
 }
