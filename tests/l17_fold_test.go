@@ -14,9 +14,11 @@ import (
 type pass struct {
 	name     string
 	do, want func(u impl.Unit) impl.Unit
+	// several is of one that is made of others: what it made may be turned by it once more, and words may be in other registers.
+	several bool
 }
 
-var fold = pass{"Fold", impl.Fold, wantFold}
+var fold = pass{name: "Fold", do: impl.Fold, want: wantFold}
 
 // check holds a pass against the model, and asks what holds of each answer.
 func (p pass) check(t *testing.T, u impl.Unit) impl.Unit {
@@ -33,7 +35,7 @@ func (p pass) check(t *testing.T, u impl.Unit) impl.Unit {
 		t.Errorf("%s is right: %v, and behind %s: %v", clip(u), wantUnitOk(u), p.name, impl.UnitOk(got))
 	}
 	// What it would turn is turned, so that nothing more is.
-	if again := p.do(got); !sameUnit(again, got) {
+	if again := p.do(got); !p.several && !sameUnit(again, got) {
 		t.Errorf("%s is another behind %s once more: %s", clip(got), p.name, unlikeUnits(again, got))
 	}
 	return got
@@ -570,6 +572,7 @@ func wantSameDiary(t *testing.T, u impl.Unit, regs []int) (lines int, whole bool
 
 // Promise 17 at drawn units, one place behind the other, with the same words in their registers.
 func TestDrawnUnitsDoTheSameFolded(t *testing.T) {
+	t.Parallel()
 	lines, ended := 0, 0
 	for seed, unit := range []func() impl.Unit{newKnownDrawer(176).unit, newFlowDrawer(177).unit, newUnitDrawer(178).unit} {
 		d := newDrawer(uint64(170 + seed))
@@ -795,6 +798,7 @@ func (p pass) wantVeryLong(t *testing.T, ahead []impl.Tac) {
 }
 
 func TestFoldOfVeryLongUnits(t *testing.T) {
+	t.Parallel()
 	fold.wantVeryLong(t, twelve())
 }
 

@@ -9,8 +9,8 @@ import (
 )
 
 var (
-	forward = pass{"Forward", impl.Forward, wantForward}
-	dead    = pass{"Dead", impl.Dead, wantDead}
+	forward = pass{name: "Forward", do: impl.Forward, want: wantForward}
+	dead    = pass{name: "Dead", do: impl.Dead, want: wantDead}
 )
 
 // copied makes each of twelve registers a copy of one of twelve others, and shown shows all of both.
@@ -511,6 +511,7 @@ func linked(count, regs int) []impl.Tac {
 
 // The most registers and the most places.
 func TestDeadOfTheLargestUnits(t *testing.T) {
+	t.Parallel()
 	// A row of which nobody reads the last one goes from its end on, as far as to what is read: all of it, and a part.
 	dead.wantMade(t, unit(0, 250, append(linked(899, 2), ret(2))...), ret(2))
 	dead.wantMade(t, unit(0, 250, append(linked(899, 250), ret(2))...), append(linked(752, 250), ret(2))...)
@@ -585,6 +586,7 @@ func TestForwardAndDeadWithListsThatAreEmptyAndNil(t *testing.T) {
 }
 
 func TestForwardAndDeadOfVeryLongUnits(t *testing.T) {
+	t.Parallel()
 	ahead := []impl.Tac{same(0, 1), same(2, 0), number(0, 5), same(4, 2), same(5, 2), same(6, 4)}
 	forward.wantVeryLong(t, ahead)
 	dead.wantVeryLong(t, ahead)
@@ -656,6 +658,7 @@ func wantOnlyReads(t *testing.T, was, now impl.Unit) {
 }
 
 func TestDrawnUnitsForwardAndDead(t *testing.T) {
+	t.Parallel()
 	replaced, out, left, rounds := 0, map[int]int{}, map[int]int{}, 0
 	count := func(u impl.Unit, met map[int]int, by int) {
 		for _, x := range u.Code {
@@ -708,9 +711,9 @@ func TestUnitsOfDrawnProgramsForwardAndDead(t *testing.T) {
 	}
 }
 
-// passRows are the passes of what is known and of what is the same, each alone as the first of a row, and one behind the other.
+// passRows are all passes, each alone as the first of a row, and one behind the other.
 func passRows() [][]pass {
-	return [][]pass{slices.Repeat([]pass{fold, forward, dead}, 3), {forward, dead, forward, fold}, {dead, forward, dead}, {fold, dead}}
+	return [][]pass{slices.Repeat([]pass{fold, forward, dead, clean}, 3), {clean, forward, dead, forward, fold}, {forward, clean, fold, clean}, {dead, forward, dead}, {fold, dead}, {better, better}}
 }
 
 // eachOf is a pass of each of a list.
@@ -736,7 +739,7 @@ func (p pass) wantSameDeeds(t *testing.T, was impl.Unit, regs []int) (now impl.U
 	for i, x := range deeds {
 		same := x.told == deedsNow[i].told
 		for _, r := range readFrom(now, live, deedsNow[i].at) {
-			same = same && x.words[r] == deedsNow[i].words[r]
+			same = same && (p.several || x.words[r] == deedsNow[i].words[r])
 		}
 		if !same {
 			t.Fatalf("%s, from %v on, does %+v, and behind %s, %s, %+v", codeText(was.Code), regs, x, p.name, codeText(now.Code), deedsNow[i])
@@ -756,6 +759,7 @@ func wantSameDeedsBehindAll(t *testing.T, u impl.Unit, row []pass, regs []int) (
 
 // Promise 18 at drawn units by themselves.
 func TestDrawnUnitsDoTheSameBehindPasses(t *testing.T) {
+	t.Parallel()
 	deeds, ended := 0, 0
 	d := newDrawer(188)
 	for i, unit := range drawnUnits(189) {
@@ -801,8 +805,8 @@ func TestUnitsOfDrawnProgramsDoTheSameBehindPasses(t *testing.T) {
 	}
 }
 
-// wantSameLater is of two worlds by the same steps, the second one of units behind passes: they are the same but for the places where frames are, and in what is read later.
-func wantSameLater(t *testing.T, was, now impl.World) {
+// wantSameLater is of two worlds by the same steps, the second one of units behind the pass: they are the same but for the places where frames are, and for registers that are not read later; of several passes, for all of them.
+func (p pass) wantSameLater(t *testing.T, was, now impl.World) {
 	t.Helper()
 	now, was = cloneWorld(now), cloneWorld(was)
 	units := now.Units
@@ -812,7 +816,7 @@ func wantSameLater(t *testing.T, was, now impl.World) {
 		for i := range min(len(b.Frames), len(before.Frames)) {
 			f := &b.Frames[i]
 			later := wordsReadLater(units[f.Unit], b, i)
-			if now.Over || b.Ended {
+			if now.Over || b.Ended || p.several {
 				later = nil
 			}
 			for r := range min(len(f.Regs), len(before.Frames[i].Regs)) {
@@ -824,7 +828,7 @@ func wantSameLater(t *testing.T, was, now impl.World) {
 		}
 	}
 	if !sameWorld(was, now) {
-		t.Errorf("behind passes it is another:\n%s", unlikeWorlds(now, was))
+		t.Errorf("behind %s it is another:\n%s", p.name, unlikeWorlds(now, was))
 	}
 }
 
@@ -865,7 +869,7 @@ func wantSameSteps(t *testing.T, units []impl.Unit, row []pass, rounds int, orde
 			if !slices.Equal(kinds, kindsNow) {
 				t.Errorf("by %v there is done %v, and behind %s %v", by, kinds, p.name, kindsNow)
 			}
-			wantSameLater(t, worlds[i], now)
+			p.wantSameLater(t, worlds[i], now)
 			worlds[i+1] = now
 			if t.Failed() {
 				t.Fatalf("%s, and behind %s\n%s", unitsText(worlds[i].Units), p.name, unitsText(now.Units))
@@ -877,6 +881,7 @@ func wantSameSteps(t *testing.T, units []impl.Unit, row []pass, rounds int, orde
 
 // Promise 18 where bodies of programs run.
 func TestProgramsDoTheSameBehindPasses(t *testing.T) {
+	t.Parallel()
 	d := newTalkDrawer(194)
 	printed, over := 0, 0
 	for range 150 {
@@ -974,6 +979,7 @@ func readsBehindADefault(u impl.Unit) bool {
 
 // Promise 18 where bodies of drawn units run.
 func TestBodiesOfDrawnUnitsDoTheSameBehindPasses(t *testing.T) {
+	t.Parallel()
 	d := newCopyDrawer(195)
 	someOpen := func(w impl.World) []int {
 		open := append(impl.Open(w), d.IntN(mostBodies))
