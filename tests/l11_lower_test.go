@@ -1157,6 +1157,13 @@ func apart(list []piece) bool {
 	return true
 }
 
+// meet is whether a piece of one list shares anything with a piece of the other one.
+func meet(list, others []piece) bool {
+	return slices.ContainsFunc(list, func(p piece) bool {
+		return slices.ContainsFunc(others, func(q piece) bool { return p.from < q.to && q.from < p.to })
+	})
+}
+
 // listsOf are all lists of units, and textsOfUnits all their texts, where they lie.
 func listsOf(units []impl.Unit) []piece {
 	out := []piece{pieceOf(units)}
@@ -1196,10 +1203,8 @@ func TestEachUnitIsItsOwn(t *testing.T) {
 					texts = append(texts, pieceOfText(s))
 				}
 			}
-			for _, p := range textsOfUnits(one) {
-				if slices.ContainsFunc(texts, func(q piece) bool { return p.from < q.to && q.from < p.to }) {
-					t.Fatalf("a text of the units of %s lies in what was given", clip(list))
-				}
+			if meet(textsOfUnits(one), texts) {
+				t.Fatalf("a text of the units of %s lies in what was given", clip(list))
 			}
 			kept, was := cloneUnits(other), cloneFuncs(list)
 			for _, u := range one {

@@ -747,7 +747,7 @@ func (p pass) wantEmptyLists(t *testing.T, ahead []impl.Tac) {
 	}
 	// A unit without registers.
 	p.wantLeft(t, impl.Unit{Code: []impl.Tac{label(0), jump(0)}})
-	p.wantLeft(t, impl.Unit{Code: []impl.Tac{label(0), begin("", []int{}...), jump(0)}})
+	p.check(t, impl.Unit{Code: []impl.Tac{label(0), begin("", []int{}...), jump(0)}})
 }
 
 func TestFoldWithListsThatAreEmptyAndNil(t *testing.T) {
@@ -850,7 +850,7 @@ func (p pass) wantOwn(t *testing.T, list []impl.Unit) {
 		if !apart(slices.Concat(listsOf(given), listsOf(one), listsOf(other))) {
 			t.Fatalf("%s(%s) shares memory", p.name, clip(u))
 		}
-		if !apart(slices.Concat(textsOfUnits(given), textsOfUnits(one), textsOfUnits(other))) {
+		if meet(textsOfUnits(given), append(textsOfUnits(one), textsOfUnits(other)...)) {
 			t.Fatalf("a text of %s(%s) lies in what was given", p.name, clip(u))
 		}
 		kept, was := cloneUnits(other), cloneUnits(given)
